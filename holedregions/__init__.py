@@ -1,0 +1,1 @@
+"""Regions with holes, told by rings in one way only; holedregions.regions has the calls."""
