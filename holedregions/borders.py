@@ -29,6 +29,13 @@ def sides_of(rings):
     return sides
 
 
+def is_on(side, spot):
+    """Whether a place is on a side; the ends are on it, too."""
+    if before(spot, side[0]) or before(side[1], spot):
+        return False
+    return leftness(side[2], spot) == 0
+
+
 def add_cut(cuts, spot):
     """Put a place on a side's line among the places that cut the side, if it's on the side and isn't there yet."""
     if before(spot, cuts[0]) or before(cuts[-1], spot):
@@ -81,7 +88,7 @@ def stretches(sides):
 
 
 def beside(spot, sides):
-    """Whether the region by these sides is at the left of a stretch with this middle, and whether at its right.
+    """Whether the region by these sides is at the left of a place that is no corner, and whether at its right.
 
     It is there if the way straight up from there meets an odd number of sides. A side counts with its first
     place and without its last, so where sides join, the way meets as many as it does just beside the joint.

@@ -1,6 +1,7 @@
 """The calls on six regions with holes: one list of whole numbers in, one out."""
 
 from holedregions.borders import EITHER, JUST_ONE, border, sides_of
+from holedregions.measures import are_apart, area_of, is_within, piece_count, whereabouts
 from holedregions.outlines import in_order, rings_of
 from holedregions.places import fraction, moved, place
 
@@ -8,10 +9,13 @@ RINGS = 0
 PUT = 1
 MOVE = 2
 TELLS = 3
+AREA = 4
+WHERE = 5
 
 NOT_AS_TOLD = -1
 TOO_LARGE = -2
 NO_SUCH_REGION = -3
+NO_SUCH_POINT = -4
 
 REGIONS = 6
 MOST_RINGS = 4
@@ -21,6 +25,9 @@ MOST_RING_POINTS = 10
 MOST_HANDED_OVER = 100
 MOST_SIDES = 16
 MOST_IN_FRACTION = 1000000000000
+POINT_NUMBERS = 4
+MOST_ABOVE = 100000
+MOST_BELOW = 1000
 
 
 class Reader:
@@ -74,7 +81,12 @@ def answer_of(regions, call, numbers, rows):
         return answer_move(regions, numbers[0], numbers[1], numbers[2:])
     if call == TELLS:
         return answer_tells(regions, numbers[0])
-    raise NotImplementedError("this call is not written yet")
+    if call == AREA:
+        return answer_area(regions, numbers[0])
+    if call == WHERE:
+        return answer_where(regions, numbers[0], numbers[1:])
+    # Only compare is left: no other call is handed in.
+    return answer_compare(regions, numbers[0], numbers[1])
 
 
 def answer_rings(regions, goal, rows):
@@ -122,6 +134,33 @@ def answer_tells(regions, region):
     return answer
 
 
+def answer_area(regions, region):
+    """Tell a region's pieces and area."""
+    if region >= REGIONS:
+        return [NO_SUCH_REGION]
+    area = area_of(regions[region])
+    return [piece_count(regions[region]), area[0], area[1]]
+
+
+def answer_where(regions, region, point):
+    """Tell where a point is in a region."""
+    if region >= REGIONS:
+        return [NO_SUCH_REGION]
+    if not is_point(point):
+        return [NO_SUCH_POINT]
+    spot = place(point[0] * point[3], point[2] * point[1], point[1] * point[3])
+    return [whereabouts(regions[region], spot)]
+
+
+def answer_compare(regions, one, other):
+    """Tell whether two regions are the same, the first is within the second, no point is inside both."""
+    if max(one, other) >= REGIONS:
+        return [NO_SUCH_REGION]
+    first = regions[one]
+    second = regions[other]
+    return [int(first == second), int(is_within(first, second)), int(are_apart(first, second))]
+
+
 def told_place(spot):
     """How far across and how far up a place is: four numbers."""
     across = fraction(spot[0], spot[2])
@@ -151,6 +190,18 @@ def is_ring(row):
     if len(spots) < FEWEST_RING_POINTS or len(spots) > MOST_RING_POINTS:
         return False
     return all([spots[k - 1] != spots[k] for k in range(len(spots))])
+
+
+def is_point(numbers):
+    """Whether numbers may be handed over as a point: what's above and below, across and then up."""
+    if len(numbers) != POINT_NUMBERS:
+        return False
+    return is_told_fraction(numbers[0], numbers[1]) and is_told_fraction(numbers[2], numbers[3])
+
+
+def is_told_fraction(above, below):
+    """Whether a point may be told by such a fraction, which may have something in common."""
+    return abs(above) <= MOST_ABOVE and below >= 1 and below <= MOST_BELOW
 
 
 def is_beyond(numbers, most):

@@ -3,8 +3,8 @@
 import unittest
 from fractions import Fraction
 
-from tests.helper import (BOTH, EITHER, FIRST_ALONE, JUST_ONE, LIMIT, RegionCase, STAY, ask, box, move, put, region,
-                          rings, tells)
+from tests.helper import (BOTH, EITHER, FIRST_ALONE, JUST_ONE, LIMIT, RegionCase, STAY, area, ask, box, compare, move,
+                          put, region, rings, tells, where)
 
 HUGE = 4294967295
 TRIANGLE = [0, 0, 4, 0, 0, 4]
@@ -39,6 +39,27 @@ class NoSuchRegion(RegionCase):
         self.assertEqual(ask(*SOME, tells(5))[-1][0], 1)
         for number in (6, HUGE):
             self.assert_refused(-3, tells(number), SOME)
+
+
+    def test_area(self):
+        self.assert_asked([1, 8, 1], area(5), SOME)
+        for number in (6, 7, HUGE):
+            self.assert_refused(-3, area(number), SOME)
+
+    def test_where(self):
+        self.assert_asked([2], where(5, 1, 1, 1, 1), SOME)
+        for number in (6, 7, HUGE):
+            self.assert_refused(-3, where(number, 1, 1, 1, 1), SOME)
+
+    def test_compare(self):
+        self.assert_asked([0, 1, 0], compare(5, 0), SOME)
+        self.assert_asked([0, 0, 0], compare(0, 5), SOME)
+        self.assert_asked([1, 1, 0], compare(5, 5), SOME)
+        for number in (6, 7, HUGE):
+            self.assert_refused(-3, compare(number, 0), SOME)
+            self.assert_refused(-3, compare(5, number), SOME)
+            self.assert_refused(-3, compare(number, number), SOME)
+            self.assert_refused(-3, compare(number, 3), SOME)
 
 
 class RingsNotAsTold(RegionCase):
@@ -147,6 +168,65 @@ class MoveNotAsTold(RegionCase):
         self.assert_refused(-3, move(0, 6, 101, 0, 0, 1, 0, 0), SOME)
 
 
+class WhereNotAsTold(RegionCase):
+    # The first two numbers tell how far across, the last two how far up.
+    POINT = [1, 1, 1, 1]
+
+    def assert_point(self, k, number, is_told):
+        """Whether a point is taken that has a number at the place k; 0 is across, 2 is up."""
+        point = list(self.POINT)
+        point[k] = number
+        for region in (0, 1, 3, 5):
+            if is_told:
+                self.assertIn(ask(*SOME, where(region, *point))[-1], ([0], [1], [2]), point)
+            else:
+                self.assert_refused(-4, where(region, *point), SOME)
+
+    def test_how_many_numbers(self):
+        for count in (0, 1, 2, 3, 5, 6, 7, 8, 12):
+            for region in (0, 3, 5):
+                self.assert_refused(-4, where(region, *[1] * count), SOME)
+        self.assert_asked([2], where(0, *[1] * 4), SOME)
+
+    def test_how_many_are_counted_not_what_they_are(self):
+        for point in ([0, 1, 0], [0, 1, 0, 1, 0], [0, 1, 0, 1, 0, 1], [HUGE] * 12, [-HUGE] * 3):
+            self.assert_refused(-4, where(0, *point), SOME)
+
+    def test_above(self):
+        for k in (0, 2):
+            for number in (-100000, -99999, -1, 0, 1, 99999, 100000):
+                self.assert_point(k, number, True)
+            for number in (-HUGE, -100001, 100001, HUGE):
+                self.assert_point(k, number, False)
+
+    def test_below(self):
+        for k in (1, 3):
+            for number in (1, 2, 999, 1000):
+                self.assert_point(k, number, True)
+            for number in (-HUGE, -1000, -1, 0, 1001, HUGE):
+                self.assert_point(k, number, False)
+
+    def test_above_and_below_have_each_their_own_bounds(self):
+        self.assert_asked([0], where(0, 100000, 1000, -100000, 1000), SOME)
+        # 100001 of 1000 and 2002 of 1001 are near enough, but they aren't told as they may be.
+        self.assert_refused(-4, where(0, 100001, 1000, 1, 1), SOME)
+        self.assert_refused(-4, where(0, 2002, 1001, 1, 1), SOME)
+        self.assert_refused(-4, where(0, -1, -1, 1, 1), SOME)
+        self.assert_refused(-4, where(0, 1, 1, 0, 0), SOME)
+
+    def test_no_such_region_comes_first(self):
+        for number in (6, HUGE):
+            self.assert_refused(-3, where(number), SOME)
+            self.assert_refused(-3, where(number, *[1] * 3), SOME)
+            self.assert_refused(-3, where(number, *[1] * 12), SOME)
+            self.assert_refused(-3, where(number, 100001, 1, 1, 1), SOME)
+            self.assert_refused(-3, where(number, 1, 0, 1, 1), SOME)
+            self.assert_refused(-3, where(number, 1, 1, 1, 1001), SOME)
+
+    def test_without_rings_it_is_refused_too(self):
+        self.assertEqual(ask(where(0), where(0, 1, 0, 1, 1), where(0, 1, 1, 1, 1)), [[-4], [-4], [0]])
+
+
 class TooManySides(RegionCase):
     # Two squares that cross leave twelve sides.
     CROSSED = [box(0, 0, 2, 2), box(1, 1, 3, 3)]
@@ -236,6 +316,13 @@ class BehindRefusals(RegionCase):
             rings(6, TRIANGLE), rings(0, TRIANGLE), put(9, 0, 0, 0), move(0, 0, 0, 0, 0, 0, 0, 0), tells(7), tells(0))
         self.assertEqual(got[:5], [[-3], [1, 3], [-1], [-1], [-3]])
         self.assertEqual(got[5][:2], [1, 3])
+
+    def test_area_where_and_compare_go_on(self):
+        got = ask(
+            rings(0, TRIANGLE), area(6), area(0), where(6), where(0, 1, 1), where(0, 1, 1, 1, 1), compare(0, 6),
+            compare(0, 1), rings(0, []), move(0, 0, 0, 0, 0, 0, 0, 0), area(0), where(0, 2, 1, 2, 1))
+        self.assertEqual(
+            got, [[1, 3], [-3], [1, 8, 1], [-3], [-4], [2], [-3], [0, 0, 1], [-1], [-1], [1, 8, 1], [1]])
 
 
 if __name__ == "__main__":
